@@ -185,7 +185,7 @@ func TestSendErrors(t *testing.T) {
 
 // P9.2, several errors
 func TestSendOrder(t *testing.T) {
-	many := append(pings(api.MaxBytes / 2), bad)
+	many := append(pings(api.MaxBytes/2), bad)
 	sends(t, "all errors", api.Tunnel{Conn: -1, Sent: -1, Broken: true}, many, nil, api.ErrClosed)
 	sends(t, "all but broken", api.Tunnel{Conn: -1, Sent: -1}, many, nil, api.ErrRange)
 	sends(t, "packets and their number", tunnel.New(1), many, nil, api.ErrIdent)
